@@ -71,6 +71,12 @@ func RulesOk(r Rules) bool {
 		length.has(r.Long) && upTo(maxLoose).has(r.Loose)
 }
 
+// mayCount is of numbers in their ranges only: others could run over.
+func mayCount(r Rules, far, counted int) bool {
+	off := max(far-counted, counted-far)
+	return thousand*off <= r.Slip*far+thousand*r.Jolt
+}
+
 func Wheel(r Rules, b Bound, counted int) Bound {
 	if !RulesOk(r) || !BoundOk(b) || !upTo(maxCounted).has(counted) {
 		return Bound{}

@@ -203,7 +203,7 @@ func TestFrontIsInTheBoundOnceItIsKnown(t *testing.T) {
 	checkSeen(t, saw)
 }
 
-// TestFrontIsInTheBoundAllAlong is P3 of as many events as there may be: no fault adds up.
+// TestFrontIsInTheBoundAllAlong is P3 of long journeys: no fault adds up.
 func TestFrontIsInTheBoundAllAlong(t *testing.T) {
 	d, saw := dice(3), seen{}
 	for range 40 {
@@ -227,7 +227,7 @@ func TestFrontIsInTheBoundAllAlong(t *testing.T) {
 	}
 }
 
-// TestFrontOfEverySmallTrain is P3 of every train of small numbers.
+// TestFrontOfEverySmallTrain is P3 of every train of two small ticks, by a few rules.
 func TestFrontOfEverySmallTrain(t *testing.T) {
 	saw := seen{}
 	marks := []impl.Mark{{Name: 8, At: 2}, {Name: 6, At: 3}, {Name: 7, At: 6}}
